@@ -267,11 +267,11 @@ func storeResults(st impl.Store) []impl.Store {
 	return append(list, hole, next)
 }
 
-// checkMemory checks that the functions do not change a store, and that what is written over one slice of a result is seen nowhere else.
-func checkMemory(t *testing.T, c namedStore) {
+// checkMemory checks that functions do not change a store, and that what is written over one slice of a result is seen nowhere else.
+func checkMemory(t *testing.T, c namedStore, resultsOf func(st impl.Store) []impl.Store) {
 	t.Helper()
 	st := wideStore(c.store)
-	results := storeResults(st)
+	results := resultsOf(st)
 	if !sameStore(st, c.store) || !zerosBehindStore(st) {
 		t.Fatalf("%s: an argument was changed", c.name)
 	}
@@ -294,12 +294,12 @@ func checkMemory(t *testing.T, c namedStore) {
 
 func TestStoresShareNoMemory(t *testing.T) {
 	for _, c := range validStores() {
-		checkMemory(t, c)
+		checkMemory(t, c, storeResults)
 	}
 	for i, c := range wrongStores() {
 		// The functions return nothing for each of these, so that some of them do.
 		if i%20 == 0 {
-			checkMemory(t, c)
+			checkMemory(t, c, storeResults)
 		}
 	}
 }
