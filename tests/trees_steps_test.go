@@ -165,6 +165,22 @@ func TestTreesThatLeadToABlockTwice(t *testing.T) {
 	}
 }
 
+func TestTreesThatWereGivenUpAlready(t *testing.T) {
+	// What makes a put fail is told in the document, and this is not: the old tree is given up once more, by which the store is not valid any more.
+	c := grown("", []string{"a", "b"}, mixedBirths())
+	st, _, ok := impl.TreePut(c.store, c.tree, 0, "new")
+	if !ok || !impl.TreeOk(st, c.tree) {
+		t.Fatalf("behind TreePut, %v, the old tree is not valid", ok)
+	}
+	next, tree, ok := impl.TreePut(st, c.tree, 0, "newer")
+	text, _ := impl.StoreRead(withGiven(next, nil, 0, nil), tree.Root)
+	list, _ := impl.FanGet(text)
+	twice := []impl.Ptr{c.tree.Root, c.leaves()[0], c.tree.Root, c.leaves()[0]}
+	if !ok || impl.StoreOk(next) || !slices.Equal(next.Gone, twice) || len(list) != 4 || list[1] != c.leaves()[1] {
+		t.Errorf("TreePut to a tree that was given up is %v, %v, and Gone is %v", tree, ok, next.Gone)
+	}
+}
+
 // treeResults returns all stores that come of one and a tree by the functions.
 func treeResults(tree impl.Tree) func(st impl.Store) []impl.Store {
 	return func(st impl.Store) []impl.Store {
