@@ -73,6 +73,20 @@ func (g *garden) drop() bool {
 	return true
 }
 
+// turn ends the group, or takes a snapshot, or drops the one that there is.
+func (g *garden) turn(plain bool) bool {
+	switch {
+	case plain:
+		next, ok := impl.StoreNext(g.store)
+		g.store = next
+		return ok
+	case g.taken == nil:
+		return g.take()
+	default:
+		return g.drop()
+	}
+}
+
 // step does one thing, as random numbers tell, and reports whether that was right.
 func (g *garden) step(random *rand.Rand) bool {
 	i := random.Intn(len(g.trees))
@@ -86,14 +100,8 @@ func (g *garden) step(random *rand.Rand) bool {
 		return g.put(i, min(15, random.Intn(many+3)), text)
 	case n < 18:
 		return g.cut(i, many-random.Intn(many+1)/(1+random.Intn(4)))
-	case n < 22:
-		next, ok := impl.StoreNext(g.store)
-		g.store = next
-		return ok
-	case g.taken == nil:
-		return g.take()
 	default:
-		return g.drop()
+		return g.turn(n < 22)
 	}
 }
 
@@ -125,22 +133,29 @@ func (g *garden) check(t *testing.T, when string) {
 	}
 }
 
-func TestP65P66P67ManyStepsAreThoseOfAModel(t *testing.T) {
+// walkGardens does many steps in each of some gardens, and tells how often fewer rows than few were free behind one.
+func walkGardens(t *testing.T, seeds int64, steps, few int, step func(g *garden, random *rand.Rand) bool, check func(g *garden, when string)) int {
+	t.Helper()
 	full := 0
-	for seed := range int64(12) {
+	for seed := range seeds {
 		random := rand.New(rand.NewSource(seed))
 		g := &garden{store: impl.StoreNew(seed%2 == 0), trees: make([]modelTree, 1+seed%3)}
-		for step := range 150 {
-			when := fmt.Sprint("seed ", seed, ", step ", step)
-			if !g.step(random) {
+		for i := range steps {
+			when := fmt.Sprint("seed ", seed, ", step ", i)
+			if !step(g, random) {
 				t.Fatalf("%s: another result", when)
 			}
-			g.check(t, when)
-			if roomIn(g.store) < 3 {
+			check(g, when)
+			if roomIn(g.store) < few {
 				full++
 			}
 		}
 	}
+	return full
+}
+
+func TestP65P66P67ManyStepsAreThoseOfAModel(t *testing.T) {
+	full := walkGardens(t, 12, 150, 3, (*garden).step, func(g *garden, when string) { g.check(t, when) })
 	if full < 20 {
 		t.Errorf("the store was full just %d times", full)
 	}

@@ -514,6 +514,25 @@ func TestP62RowsThatAreSpoilt(t *testing.T) {
 	}
 }
 
+// storeSpoils returns ways to spoil a store in group 7 the row 8 of which is free, by each of which it is not valid any more.
+func storeSpoils() []func(st *impl.Store) {
+	return []func(st *impl.Store){
+		func(st *impl.Store) { st.Txg = 0 },
+		func(st *impl.Store) { st.Txg = 901 },
+		func(st *impl.Store) { st.Keep = 7 },
+		func(st *impl.Store) { st.Keep = -1 },
+		func(st *impl.Store) { st.Rows = st.Rows[:63] },
+		func(st *impl.Store) { st.Rows = append(st.Rows, "") },
+		func(st *impl.Store) { st.Rows[8] = "free" },
+		func(st *impl.Store) { st.Rows[7] = "text" },
+		func(st *impl.Store) { st.Space.Refs = nil },
+		func(st *impl.Store) { st.Space.Last[8] = 1 },
+		func(st *impl.Store) { st.Gone = refsTo(8, 1) },
+		func(st *impl.Store) { st.Keep, st.Dead = 3, refsTo(8, 1) },
+		func(st *impl.Store) { st.Gone = []impl.Ptr{{}} },
+	}
+}
+
 func TestP62StoresThatAreNotValid(t *testing.T) {
 	for i, c := range wrongStores() {
 		many := i % 17
@@ -521,22 +540,8 @@ func TestP62StoresThatAreNotValid(t *testing.T) {
 	}
 	for _, texts := range treeShapes() {
 		c := grown("", texts, mixedBirths())
-		for i, change := range []func(st *impl.Store){
-			func(st *impl.Store) { st.Txg = 0 },
-			func(st *impl.Store) { st.Txg = 901 },
-			func(st *impl.Store) { st.Keep = 7 },
-			func(st *impl.Store) { st.Keep = -1 },
-			func(st *impl.Store) { st.Rows = st.Rows[:63] },
-			func(st *impl.Store) { st.Rows = append(st.Rows, "") },
-			func(st *impl.Store) { st.Rows[8] = "free" },
-			func(st *impl.Store) { st.Rows[7] = "text" },
-			func(st *impl.Store) { st.Space.Refs = nil },
-			func(st *impl.Store) { st.Space.Last[8] = 1 },
-			func(st *impl.Store) { st.Gone = refsTo(8, 1) },
-			func(st *impl.Store) { st.Keep, st.Dead = 3, refsTo(8, 1) },
-			func(st *impl.Store) { st.Gone = []impl.Ptr{{}} },
-		} {
-			nothingOfTree(t, fmt.Sprintf("%.9q, store %d", texts, i), changedStore(c.store, change), c.tree)
+		for i, spoil := range storeSpoils() {
+			nothingOfTree(t, fmt.Sprintf("%.9q, store %d", texts, i), changedStore(c.store, spoil), c.tree)
 		}
 	}
 }
