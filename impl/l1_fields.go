@@ -89,6 +89,19 @@ func NumGet(s string) (int, bool) {
 	return n, true
 }
 
+// numsGet returns the numbers that number texts are of, and true; it fails if one of the texts is none.
+func numsGet(texts ...string) ([]int, bool) {
+	list := []int{}
+	for _, text := range texts {
+		n, ok := NumGet(text)
+		if !ok {
+			return nil, false
+		}
+		list = append(list, n)
+	}
+	return list, true
+}
+
 // SumOf returns the checksum of a text.
 func SumOf(s string) int {
 	one, two := 1, 0
